@@ -63,6 +63,26 @@ func StripMovesOk(list []StripMove) bool {
 
 // StripGap is how many ticks behind one the other may use the runway.
 func StripGap(a StripMove, b StripMove) int {
+	gap := gapOf(a, b)
+	// The answer hangs on the two moves alone: what start-up has left in the
+	// table is taken only where it says the same.
+	if told := toldGap(a, b); told == gap {
+		return told
+	}
+	return gap
+}
+
+// gapOf works a gap out; the layers above ask it, and not the table.
+func gapOf(a, b StripMove) int {
+	gap := 1 + heavierBy(a.Wake, b.Wake)
+	if a.Lands {
+		gap++
+	}
+	return gap
+}
+
+// toldGap looks a gap up in the table.
+func toldGap(a, b StripMove) int {
 	lands := 0
 	if a.Lands {
 		lands = 1

@@ -25,6 +25,11 @@ func StripCost(list []StripMove, ticks []int) (int, int) {
 	if !StripFits(list, ticks) {
 		return 0, 0
 	}
+	return lateness(list, ticks)
+}
+
+// lateness needs ticks that fit.
+func lateness(list []StripMove, ticks []int) (int, int) {
 	sum, most := 0, 0
 	for i, m := range list {
 		late := ticks[i] - m.Est
@@ -43,10 +48,10 @@ func tickSuits(m StripMove, tick int) bool {
 // taken from each other.
 func tooNear(a, b StripMove, tickA, tickB int) bool {
 	if tickB < tickA {
-		return tickA-tickB < StripGap(b, a)
+		return tickA-tickB < gapOf(b, a)
 	}
 	// The same tick is always too near, as no gap is below 1.
-	return tickB-tickA < StripGap(a, b)
+	return tickB-tickA < gapOf(a, b)
 }
 
 // pairs tells each two places below n once, the lower one first.
